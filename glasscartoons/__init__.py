@@ -1,0 +1,1 @@
+"""Cartoons: drawings of glass windows, judged by rule and place."""

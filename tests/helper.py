@@ -1,0 +1,199 @@
+"""Drawings for the tests: how one is put into bytes, and a stock of cartoons."""
+
+import functools
+
+GREATEST = 18446744073709551615
+HEAD = 20
+
+
+def low_first(number, size):
+    return list(number.to_bytes(size, "little"))
+
+
+class Drawn:
+    """A drawing as it is to stand in the bytes, with nothing put in order or mended."""
+
+    def __init__(self, width, height, points, lines, marks):
+        self.width = width
+        self.height = height
+        self.points = list(points)
+        self.lines = list(lines)
+        self.marks = [(m[0], m[1], m[2] if len(m) > 2 else 0, m[3] if len(m) > 3 else 0) for m in marks]
+
+    def changed(self, **parts):
+        """Another drawing that differs in the parts told."""
+        new = {"width": self.width, "height": self.height, "points": self.points,
+               "lines": self.lines, "marks": self.marks}
+        new.update(parts)
+        return Drawn(**new)
+
+    def row(self):
+        row = [0x47, 0x4C, 0x41, 0x31]
+        row += low_first(self.width, 4) + low_first(self.height, 4)
+        row += low_first(len(self.points), 2) + low_first(len(self.lines), 2) + low_first(len(self.marks), 2)
+        row += [0, 0]
+        for x, y in self.points:
+            row += low_first(x, 4) + low_first(y, 4)
+        for first, second in self.lines:
+            row += low_first(first, 2) + low_first(second, 2)
+        for x, y, glass, painting in self.marks:
+            row += low_first(x, 4) + low_first(y, 4) + low_first(glass, 2) + low_first(painting, 2)
+        return row
+
+    def point_place(self, point):
+        return HEAD + 8 * self.points.index(point)
+
+    def line_place(self, p, q):
+        line = tuple(sorted((self.points.index(p), self.points.index(q))))
+        return HEAD + 8 * len(self.points) + 4 * self.lines.index(line)
+
+    def mark_place(self, x, y):
+        number = [(m[0], m[1]) for m in self.marks].index((x, y))
+        return HEAD + 8 * len(self.points) + 4 * len(self.lines) + 12 * number
+
+
+def by_height(spot):
+    return (spot[1], spot[0])
+
+
+def drawn(width, height, pairs, marks, more_points=()):
+    """The drawing with a line between each pair of points, all in the order that the rules ask for."""
+    points = sorted({point for pair in pairs for point in pair} | set(more_points), key=by_height)
+    numbers = {point: number for number, point in enumerate(points)}
+    lines = sorted(tuple(sorted((numbers[p], numbers[q]))) for p, q in pairs)
+    return Drawn(width, height, points, lines, sorted(marks, key=by_height))
+
+
+def path(*points):
+    """The pairs along a way."""
+    return list(zip(points, points[1:]))
+
+
+def frame(width, height, *on_edge):
+    """The pairs round the frame, with points on its edges besides the corners."""
+    points = set(on_edge) | {(0, 0), (width, 0), (0, height), (width, height)}
+    pairs = []
+    for axis, level in ((1, 0), (1, height), (0, 0), (0, width)):
+        pairs += path(*sorted(point for point in points if point[axis] == level))
+    return pairs
+
+
+def edited(row, place, *numbers):
+    """The row with these numbers from the place on."""
+    return row[:place] + list(numbers) + row[place + len(numbers):]
+
+
+def the_run():
+    """The cartoon of the document's run, number by number as it is told there."""
+    points = [(0, 0), (30, 0), (10, 10), (0, 20), (30, 20)]
+    lines = [(0, 1), (0, 2), (0, 3), (1, 2), (1, 4), (2, 3), (3, 4)]
+    return Drawn(30, 20, points, lines, [(15, 2, 5), (2, 10, 6), (20, 15, 7)])
+
+
+def one_pane():
+    return drawn(16, 16, frame(16, 16), [(8, 8)])
+
+
+def straight_on():
+    """One pane, with points on every edge at which its outline goes straight on."""
+    return drawn(20, 16, frame(20, 16, (5, 0), (9, 0), (20, 7), (12, 16), (3, 16), (0, 4), (0, 5)), [(1, 1)])
+
+
+def greatest_frame():
+    """The greatest frame, parted by a line from corner to corner."""
+    side = 1048575
+    return drawn(side, side, frame(side, side) + [((0, 0), (side, side))],
+                 [(side - 1, 1, 65535, 65535), (1, side - 1, 1, 2)])
+
+
+def fan():
+    """Lines from a point within to every other point, on every edge of the frame."""
+    on_edge = [(k, 0) for k in range(0, 41, 5)] + [(k, 30) for k in range(0, 41, 5)]
+    on_edge += [(0, k) for k in range(5, 30, 5)] + [(40, k) for k in range(5, 30, 5)]
+    pairs = frame(40, 30, *on_edge) + [((20, 15), point) for point in on_edge]
+    marks = [(k + 2, 1) for k in range(0, 40, 5)] + [(k + 2, 29) for k in range(0, 40, 5)]
+    marks += [(1, k + 2) for k in range(0, 30, 5)] + [(39, k + 2) for k in range(0, 30, 5)]
+    return drawn(40, 30, pairs, marks)
+
+
+def comb():
+    """Two panes that reach into one another with teeth; the marks are at the heights of the teeth's points."""
+    teeth = path((0, 10), (10, 10), (10, 40), (20, 40), (20, 10), (30, 10), (30, 40), (40, 40), (40, 10), (60, 10))
+    return drawn(60, 50, frame(60, 50, (0, 10), (60, 10)) + teeth, [(35, 10), (25, 40)])
+
+
+def spiral():
+    """Two panes that wind about one another; a mark is at the height of points of both."""
+    way = path((0, 10), (90, 10), (90, 90), (10, 90), (10, 30), (70, 30), (70, 70), (30, 70), (30, 50), (50, 50),
+               (50, 40), (20, 40), (20, 80), (80, 80), (80, 20), (0, 20))
+    return drawn(100, 100, frame(100, 100, (0, 10), (0, 20)) + way, [(40, 45), (60, 50)])
+
+
+def ring():
+    """A square within the frame that two ways join with it."""
+    square = path((10, 10), (30, 10), (30, 30), (10, 30), (10, 10))
+    ways = path((0, 0), (5, 5), (10, 10)) + path((30, 30), (40, 40))
+    return drawn(40, 40, frame(40, 40) + square + ways, [(20, 5), (5, 20), (20, 20)])
+
+
+def bent():
+    """Points within panes' outlines at which these go straight on, and a pane with a corner that is bent inwards."""
+    pairs = frame(24, 24, (8, 0), (16, 0), (12, 24))
+    pairs += path((8, 0), (8, 4), (8, 8), (12, 8), (16, 8), (16, 0)) + path((12, 8), (12, 16), (12, 24))
+    return drawn(24, 24, pairs, [(12, 4), (4, 8), (20, 8)])
+
+
+def grid(many_across, many_up, step, with_diagonals):
+    """Cells as wide as high, each parted by a diagonal if asked for."""
+    width = (many_across - 1) * step
+    height = (many_up - 1) * step
+    pairs = []
+    marks = []
+    for j in range(many_up):
+        for i in range(many_across):
+            x, y = i * step, j * step
+            if x < width:
+                pairs.append(((x, y), (x + step, y)))
+            if y < height:
+                pairs.append(((x, y), (x, y + step)))
+            if x < width and y < height:
+                if with_diagonals:
+                    pairs.append(((x, y), (x + step, y + step)))
+                    marks += [(x + step - 1, y + 1, i, j), (x + 1, y + step - 1, j, i)]
+                else:
+                    marks.append((x + 1, y + 1, i, j))
+    return drawn(width, height, pairs, marks)
+
+
+def nested(many_points):
+    """Triangles parted in three again and again by a point within them: as many lines as so many points let be."""
+    side = 1048575
+    pairs = frame(side, side) + [((0, 0), (side, side))]
+    triangles = [((0, 0), (side, 0), (side, side)), ((0, 0), (side, side), (0, side))]
+    while len(triangles) < 2 + 2 * (many_points - 4):
+        a, b, c = triangles.pop(0)
+        middle = ((a[0] + b[0] + c[0]) // 3, (a[1] + b[1] + c[1]) // 3)
+        pairs += [(a, middle), (b, middle), (c, middle)]
+        triangles += [(a, b, middle), (b, c, middle), (c, a, middle)]
+    marks = [((a[0] + b[0] + c[0]) // 3, (a[1] + b[1] + c[1]) // 3) for a, b, c in triangles]
+    return drawn(side, side, pairs, marks)
+
+
+@functools.cache
+def cartoons():
+    """The stock: names and cartoons."""
+    return {
+        "the run": the_run(),
+        "one pane": one_pane(),
+        "straight on": straight_on(),
+        "greatest frame": greatest_frame(),
+        "fan": fan(),
+        "comb": comb(),
+        "spiral": spiral(),
+        "ring": ring(),
+        "bent": bent(),
+        "grid": grid(5, 4, 6, False),
+        "grid with diagonals": grid(4, 6, 6, True),
+        "largest grid": grid(20, 10, 7, True),
+        "nested": nested(200),
+    }
