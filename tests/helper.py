@@ -1,6 +1,7 @@
 """Drawings for the tests: how one is put into bytes, and a stock of cartoons."""
 
 import functools
+import itertools
 
 GREATEST = 18446744073709551615
 HEAD = 20
@@ -179,6 +180,34 @@ def nested(many_points):
     return drawn(side, side, pairs, marks)
 
 
+def long_way():
+    """200 points, of which 196 are on one way up and down across the frame."""
+    points = [(5 * k, 10 + 50 * (k % 2)) for k in range(196)]
+    return drawn(975, 70, frame(975, 70, points[0], points[-1]) + path(*points), [(2, 2), (2, 68)])
+
+
+def long_edge():
+    """One pane of 200 points."""
+    return drawn(200, 16, frame(200, 16, *[(k, 0) for k in range(1, 197)]), [(2, 2)])
+
+
+def great_fan():
+    """200 points, of which one is joined with all others."""
+    on_edge = [(5 * k, 0) for k in range(1, 197)]
+    pairs = frame(985, 9000, *on_edge) + [((0, 9000), point) for point in on_edge + [(985, 0)]]
+    return drawn(985, 9000, pairs, [(5 * k + 2, 1) for k in range(197)] + [(984, 8999)])
+
+
+def crowded():
+    """No cartoon: 200 points, 8192 lines, of which very many cross, 2048 marks."""
+    cartoon = nested(200)
+    lines = set(cartoon.lines)
+    for line in itertools.combinations(range(200), 2):
+        if len(lines) < 8192:
+            lines.add(line)
+    return cartoon.changed(lines=sorted(lines), marks=[(1 + k % 512, 1 + k // 512) for k in range(2048)])
+
+
 @functools.cache
 def cartoons():
     """The stock: names and cartoons."""
@@ -196,4 +225,100 @@ def cartoons():
         "grid with diagonals": grid(4, 6, 6, True),
         "largest grid": grid(20, 10, 7, True),
         "nested": nested(200),
+        "long way": long_way(),
+        "long edge": long_edge(),
+        "great fan": great_fan(),
     }
+
+
+# Bytes that are no cartoon, and their refusals.
+REFUSED = (
+    ([], [-5, 1, 0]),
+    ([0] * 19, [-5, 1, 19]),
+    ([0] * 20, [-5, 1, 0]),
+    (edited(the_run().row(), 18, 1), [-5, 2, 18]),
+    (the_run().row()[:-1], [-5, 3, 20]),
+    (the_run().row() + [0], [-5, 3, 20]),
+    (the_run().changed(marks=[(15, 2), (2, 10), (10, 10)]).row(), [-5, 11, 112]),
+    (the_run().changed(marks=[(15, 2), (16, 2)]).row(), [-5, 12, 100]),
+    (the_run().changed(marks=[(15, 2)]).row(), [-5, 13, 100]),
+    ([0] * 131072, [-5, 1, 0]),
+    ([0] * 131073, [-6]),
+)
+
+
+class Watched(list):
+    """A row that refuses to be changed, if only for a while."""
+
+    def touched(self, *arguments, **named):
+        raise RuntimeError("a row that was handed in is changed")
+
+    append = clear = extend = insert = pop = remove = reverse = sort = touched
+    __setitem__ = __delitem__ = __iadd__ = __imul__ = touched
+
+
+def assert_kinds(case, answers):
+    """That the answers for a row are lists of whole numbers, the same each time, and that no row is changed."""
+    rows = [cartoon.row() for cartoon in cartoons().values()] + [row for row, refusal in REFUSED]
+    found = []
+    for row in rows:
+        before = list(row)
+        found.append(answers(row))
+        case.assertEqual(row, before)
+        for answer in found[-1]:
+            case.assertIs(type(answer), list)
+            case.assertEqual({type(number) for number in answer}, {int})
+    for row, first in reversed(list(zip(rows, found))):
+        again = answers(Watched(row))
+        case.assertEqual(again, first)
+        for answer in again:
+            answer[0] = 9
+            answer.append(7)
+    case.assertEqual([answers(row) for row in rows if len(row) < 1000],
+                     [first for row, first in zip(rows, found) if len(row) < 1000])
+
+
+def holds_spot(corners, spot):
+    """Whether the corners' outline, on no line of which the spot is, holds it: looked for straight up from it."""
+    met = 0
+    for (px, py), (qx, qy) in zip(corners, corners[1:] + corners[:1]):
+        if min(px, qx) <= spot[0] < max(px, qx):
+            # The line's height above the spot, times how far it goes to the right.
+            above = (py - spot[1]) * (qx - px) + (qy - py) * (spot[0] - px)
+            met += (above > 0) == (qx > px)
+    return met % 2 == 1
+
+
+def area_of(corners):
+    """Twice the area, as trapezoids down to the height of 0; above 0 if it is to the left of the way round."""
+    return sum((px - qx) * (py + qy) for (px, py), (qx, qy) in zip(corners, corners[1:] + corners[:1]))
+
+
+def pane_faults(cartoon, panes, areas):
+    """What is wrong with the answers of pane and of area for each of a cartoon's marks."""
+    faults = []
+    lines = set(cartoon.lines)
+    steps = []
+    if not len(panes) == len(areas) == len(cartoon.lines) - len(cartoon.points) + 1 == len(cartoon.marks):
+        faults.append("not L - P + 1 panes")
+    for i, (pane, area) in enumerate(zip(panes, areas)):
+        if pane[0] != 0 or pane[1] != len(pane) - 2 or len(area) != 2 or area[0] != 0:
+            faults.append("answers that don't stand as told: %r, %r" % (pane, area))
+            continue
+        numbers = pane[2:]
+        corners = [cartoon.points[number] for number in numbers]
+        if len(set(numbers)) < len(numbers) or numbers[0] != min(numbers):
+            faults.append("pane %d: a corner twice, or not from the least on" % i)
+        around = list(zip(numbers, numbers[1:] + numbers[:1]))
+        if not lines.issuperset(tuple(sorted(step)) for step in around):
+            faults.append("pane %d: two corners that no line joins" % i)
+        steps += around
+        if not 0 < area_of(corners) == area[1]:
+            faults.append("pane %d: not the area, or not to the left" % i)
+        if not holds_spot(corners, cartoon.marks[i]):
+            faults.append("pane %d doesn't hold mark %d" % (i, i))
+    if len(set(steps)) < len(steps) or {tuple(sorted(step)) for step in steps} != lines:
+        faults.append("a line twice to the left of panes, or no part of any")
+    if sum(area[1] for area in areas) != 2 * cartoon.width * cartoon.height:
+        faults.append("areas that don't come to 2 W H")
+    return faults

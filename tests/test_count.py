@@ -4,18 +4,7 @@ import itertools
 import unittest
 
 from glasscartoons.plans import count, judge
-from tests.helper import GREATEST, cartoons, drawn, edited, frame, nested, path, the_run
-
-# Bytes that are no cartoon, and their refusals.
-REFUSED = (
-    ([], [-5, 1, 0]),
-    ([0] * 19, [-5, 1, 19]),
-    ([0] * 20, [-5, 1, 0]),
-    (the_run().row()[:-1], [-5, 3, 20]),
-    (the_run().row() + [0], [-5, 3, 20]),
-    (the_run().changed(marks=[(15, 2)]).row(), [-5, 13, 100]),
-    ([0] * 131072, [-5, 1, 0]),
-)
+from tests.helper import GREATEST, REFUSED, assert_kinds, cartoons, crowded, drawn, edited, frame, nested, the_run
 
 
 class Count(unittest.TestCase):
@@ -53,53 +42,12 @@ class Judge(unittest.TestCase):
             self.assertEqual(judge(row), refusal)
 
     def test_more_bytes_than_131072(self):
-        self.assertEqual(judge([0] * 131073), [-6])
         self.assertEqual(judge(the_run().row() + [0] * 131072), [-6])
 
 
 class Kinds(unittest.TestCase):
-    def answers(self, row):
-        return [judge(row)] + [count(what, row) for what in (0, 1, 2, 3, GREATEST)]
-
-    def rows(self):
-        return [cartoon.row() for cartoon in cartoons().values()] + [row for row, refusal in REFUSED]
-
-    def test_an_answer_is_a_list_of_whole_numbers(self):
-        for row in self.rows():
-            for answer in self.answers(row):
-                self.assertIs(type(answer), list)
-                for number in answer:
-                    self.assertIs(type(number), int)
-
-    def test_what_is_handed_in_is_not_changed(self):
-        for row in self.rows():
-            before = list(row)
-            self.answers(row)
-            self.assertEqual(row, before)
-
-    def test_not_for_a_while_either(self):
-        class Watched(list):
-            def touched(self, *arguments, **named):
-                raise RuntimeError("a row that was handed in is changed")
-
-            append = clear = extend = insert = pop = remove = reverse = sort = touched
-            __setitem__ = __delitem__ = __iadd__ = __imul__ = touched
-
-        for row in self.rows():
-            self.assertEqual(self.answers(Watched(row)), self.answers(row))
-
-    def test_nothing_is_kept(self):
-        rows = self.rows()
-        first = [self.answers(row) for row in rows]
-        again = [self.answers(row) for row in reversed(rows)]
-        self.assertEqual(first, again[::-1])
-
-    def test_an_answer_is_the_callers_own(self):
-        for row in (the_run().row(), []):
-            first = self.answers(row)
-            for answer in self.answers(row):
-                answer.append(7)
-            self.assertEqual(self.answers(row), first)
+    def test_answers(self):
+        assert_kinds(self, lambda row: [judge(row)] + [count(what, row) for what in (0, 2, 3, GREATEST)])
 
 
 class ItsOwnBytes(unittest.TestCase):
@@ -158,18 +106,8 @@ class Largest(unittest.TestCase):
         self.assertEqual(judge(row + [0] * (60000 - len(row))), [-5, 3, 20])
         self.assertEqual(judge([255] * 60000), [-5, 1, 0])
 
-    def all_lines(self):
-        """200 points, 8192 lines, of which very many cross, 2048 marks."""
-        cartoon = nested(200)
-        lines = set(cartoon.lines)
-        for line in itertools.combinations(range(200), 2):
-            if len(lines) < 8192:
-                lines.add(line)
-        marks = [(1 + k % 512, 1 + k // 512) for k in range(2048)]
-        return cartoon.changed(lines=sorted(lines), marks=marks)
-
     def test_8192_lines(self):
-        changed = self.all_lines()
+        changed = crowded()
         row = changed.row()
         self.assertEqual(len(row), 20 + 8 * 200 + 4 * 8192 + 12 * 2048)
         answer = judge(row)
@@ -177,7 +115,7 @@ class Largest(unittest.TestCase):
         self.assertEqual(count(2, row), answer)
 
     def test_8192_lines_of_which_the_last_is_wrong(self):
-        changed = self.all_lines()
+        changed = crowded()
         changed = changed.changed(lines=changed.lines[:-1] + [(199, 200)])
         self.assertEqual(judge(changed.row()), [-5, 5, 20 + 1600 + 4 * 8191])
 
@@ -191,24 +129,23 @@ class Largest(unittest.TestCase):
         row = cartoon.changed(marks=marks).row()
         self.assertEqual(judge(row)[:2], [-5, 12])
 
-    def test_a_way_of_196_points(self):
-        points = [(5 * k, 10 + 50 * (k % 2)) for k in range(196)]
-        cartoon = drawn(975, 70, frame(975, 70, points[0], points[-1]) + path(*points), [(2, 2), (2, 68)])
-        self.assertEqual(len(cartoon.points), 200)
-        self.assertEqual([count(what, cartoon.row()) for what in range(3)], [[0, 200], [0, 201], [0, 2]])
+    def test_200_points(self):
+        found = {}
+        for name, cartoon in cartoons().items():
+            if len(cartoon.points) == 200:
+                found[name] = [count(what, cartoon.row()) for what in range(3)]
+        self.assertEqual(found, {
+            "largest grid": [[0, 200], [0, 541], [0, 342]],
+            "nested": [[0, 200], [0, 593], [0, 394]],
+            "long way": [[0, 200], [0, 201], [0, 2]],
+            "long edge": [[0, 200], [0, 200], [0, 1]],
+            "great fan": [[0, 200], [0, 397], [0, 198]],
+        })
 
-    def test_one_pane_of_200_points(self):
-        on_edge = [(k, 0) for k in range(1, 197)]
-        cartoon = drawn(200, 16, frame(200, 16, *on_edge), [(2, 2)])
-        self.assertEqual([count(what, cartoon.row()) for what in range(3)], [[0, 200], [0, 200], [0, 1]])
-
-    def test_a_point_at_which_199_lines_end(self):
-        on_edge = [(5 * k, 0) for k in range(1, 197)]
-        pairs = frame(985, 9000, *on_edge) + [((0, 9000), point) for point in on_edge + [(985, 0)]]
-        marks = [(5 * k + 2, 1) for k in range(197)] + [(984, 8999)]
-        cartoon = drawn(985, 9000, pairs, marks)
-        self.assertEqual(sum((0, 9000) in pair for pair in pairs), 199)
-        self.assertEqual([count(what, cartoon.row()) for what in range(3)], [[0, 200], [0, 397], [0, 198]])
+    def test_both_bytes_of_how_many_points_count(self):
+        on_edge = [(k, 0) for k in range(1, 297)]
+        cartoon = drawn(300, 16, frame(300, 16, *on_edge), [(2, 2)])
+        self.assertEqual([count(what, cartoon.row()) for what in range(3)], [[0, 300], [0, 300], [0, 1]])
 
 
 if __name__ == "__main__":

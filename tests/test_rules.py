@@ -2,14 +2,18 @@
 
 import unittest
 
-from glasscartoons.plans import judge
-from tests.helper import (Drawn, bent, cartoons, comb, drawn, edited, fan, frame, grid, low_first, one_pane, path, ring,
-                          spiral, straight_on, the_run)
+from glasscartoons.plans import area, judge, pane
+from tests.helper import (Drawn, bent, cartoons, comb, drawn, edited, fan, frame, grid, low_first, one_pane,
+                          pane_faults, path, ring, spiral, straight_on, the_run)
 
 
 class RuleCase(unittest.TestCase):
-    def assertTaken(self, row):
+    def assertTaken(self, cartoon):
+        row = cartoon.row()
         self.assertEqual(judge(row), [0])
+        many = len(cartoon.marks)
+        panes, areas = [pane(i, row) for i in range(many)], [area(i, row) for i in range(many)]
+        self.assertEqual(pane_faults(cartoon, panes, areas), [])
 
     def assertBroken(self, row, rule, place):
         self.assertEqual(judge(row), [-5, rule, place])
@@ -38,16 +42,16 @@ class Rule2(RuleCase):
     def test_width_and_height(self):
         row = the_run().row()
         for place in (4, 8):
-            for number in (0, 1, 15, 1048576, 2 ** 24, 2 ** 32 - 1):
+            for number in (0, 1, 15, 1048576, 2 ** 20 + 30, 2 ** 24, 2 ** 24 + 30, 2 ** 31 + 30, 2 ** 32 - 1):
                 self.assertBroken(edited(row, place, *low_first(number, 4)), 2, place)
 
     def test_width_and_height_at_their_ends(self):
         for width, height in ((16, 16), (16, 1048575), (1048575, 16), (1048575, 1048575)):
-            self.assertTaken(drawn(width, height, frame(width, height), [(1, 1)]).row())
+            self.assertTaken(drawn(width, height, frame(width, height), [(1, 1)]))
 
     def test_all_bytes_of_width_and_height_count(self):
         for width, height in ((256, 16), (16, 256), (65536, 17), (17, 65536)):
-            self.assertTaken(drawn(width, height, frame(width, height), [(1, 1)]).row())
+            self.assertTaken(drawn(width, height, frame(width, height), [(1, 1)]))
 
     def test_how_many_points_lines_marks(self):
         row = the_run().row()
@@ -187,7 +191,7 @@ class Rule6(RuleCase):
         for corner, beside in corners.items():
             with self.subTest(corner):
                 whole = drawn(20, 18, frame(20, 18, *beside) + [beside], [(10, 9), inwards(corner, 20, 18)])
-                self.assertTaken(whole.row())
+                self.assertTaken(whole)
                 pairs = [pair for pair in frame(20, 18, *beside) if corner not in pair] + [beside]
                 self.assertBroken(drawn(20, 18, pairs, [(10, 9)]).row(), 6, 20)
 
@@ -205,7 +209,7 @@ class Rule6(RuleCase):
     def test_each_part_of_each_edge(self):
         on_edge = ((5, 0), (9, 0), (20, 6), (20, 12), (4, 18), (16, 18), (0, 3), (0, 11))
         pairs = frame(20, 18, *on_edge)
-        self.assertTaken(drawn(20, 18, pairs, [(10, 9)]).row())
+        self.assertTaken(drawn(20, 18, pairs, [(10, 9)]))
         self.assertEqual(len(pairs), 12)
         for pair in pairs:
             with self.subTest(pair):
@@ -220,7 +224,7 @@ class Rule6(RuleCase):
     def test_a_point_next_to_the_edge_is_not_on_it(self):
         pairs = frame(20, 18) + path((0, 0), (10, 1), (20, 18)) + path((0, 0), (1, 10), (20, 18))
         marks = [(10, 10), (10, 17), (19, 1)]
-        self.assertTaken(drawn(20, 18, pairs, marks).row())
+        self.assertTaken(drawn(20, 18, pairs, marks))
 
     def test_rule_5_comes_first(self):
         lines = [(0, 2), (0, 3), (1, 2), (1, 4), (2, 3), (2, 3), (3, 4)]
@@ -243,7 +247,7 @@ class Rule7(RuleCase):
             with self.subTest(q):
                 pairs = frame(20, 18, p, q) + path(p, middle, q)
                 marks = [(1, 1), (19, 17)]
-                self.assertTaken(drawn(20, 18, pairs, marks).row())
+                self.assertTaken(drawn(20, 18, pairs, marks))
                 changed = drawn(20, 18, pairs + [(p, q)], marks)
                 self.assertBroken(changed.row(), 7, changed.line_place(p, q))
 
@@ -265,7 +269,7 @@ class Rule7(RuleCase):
 
     def test_a_point_in_a_row_with_a_line_but_beside_it(self):
         pairs = frame(20, 18, (0, 6), (20, 6)) + path((0, 6), (5, 6), (8, 8), (12, 6), (20, 6))
-        self.assertTaken(drawn(20, 18, pairs, [(1, 1), (19, 17)]).row())
+        self.assertTaken(drawn(20, 18, pairs, [(1, 1), (19, 17)]))
 
     def test_a_crossing(self):
         changed = drawn(20, 18, frame(20, 18) + [((0, 0), (20, 18)), ((20, 0), (0, 18))], [(10, 1)])
@@ -294,12 +298,12 @@ class Rule7(RuleCase):
         self.assertBroken(changed.row(), 7, changed.line_place((0, 9), (40, 9)))
 
     def test_lines_with_an_end_in_common_do_not_cross(self):
-        self.assertTaken(fan().row())
+        self.assertTaken(fan())
 
     def test_lines_that_end_at_one_another_do_not_cross(self):
         # (10, 9) is an end of three lines, two of which are in a row.
         pairs = frame(20, 18) + path((0, 0), (10, 9), (20, 18)) + [((10, 9), (0, 18))]
-        self.assertTaken(drawn(20, 18, pairs, [(10, 1), (1, 9), (10, 17)]).row())
+        self.assertTaken(drawn(20, 18, pairs, [(10, 1), (1, 9), (10, 17)]))
 
     def test_the_least_place(self):
         pairs = frame(20, 18) + [((0, 0), (20, 18)), ((20, 0), (0, 18))]
@@ -396,7 +400,7 @@ class Rule10(RuleCase):
         self.assertBroken(changed.row(), 10, changed.point_place((30, 35)))
 
     def test_two_ways_are_enough(self):
-        self.assertTaken(ring().row())
+        self.assertTaken(ring())
 
     def test_rule_10_comes_ahead_of_rule_11(self):
         changed = drawn(40, 40, frame(40, 40) + path((0, 0), (9, 3), (3, 9), (0, 0)), [(0, 5), (20, 20)])
@@ -414,14 +418,14 @@ class Rule11(RuleCase):
     def test_next_to_the_frame(self):
         for x, y in ((1, 8), (15, 8), (8, 1), (8, 15), (1, 1), (15, 15)):
             with self.subTest((x, y)):
-                self.assertTaken(one_pane().changed(marks=[(x, y)]).row())
+                self.assertTaken(one_pane().changed(marks=[(x, y)]))
 
     def test_a_wide_frame_is_not_as_high(self):
         wide = drawn(40, 16, frame(40, 16), [(39, 15)])
-        self.assertTaken(wide.row())
+        self.assertTaken(wide)
         self.assertBroken(wide.changed(marks=[(15, 39)]).row(), 11, 68)
         high = drawn(16, 40, frame(16, 40), [(15, 39)])
-        self.assertTaken(high.row())
+        self.assertTaken(high)
         self.assertBroken(high.changed(marks=[(39, 15)]).row(), 11, 68)
 
     def test_on_a_line(self):
@@ -439,8 +443,8 @@ class Rule11(RuleCase):
     def test_in_a_row_with_a_line_but_beside_it(self):
         # (20, 20) is in a row with (0, 0) and (10, 10), and within no line's box but those it is beside of.
         pairs = frame(40, 40) + path((0, 0), (10, 10), (40, 0))
-        self.assertTaken(drawn(40, 40, pairs, [(20, 5), (20, 20)]).row())
-        self.assertTaken(drawn(40, 40, pairs, [(20, 5), (30, 10)]).row())
+        self.assertTaken(drawn(40, 40, pairs, [(20, 5), (20, 20)]))
+        self.assertTaken(drawn(40, 40, pairs, [(20, 5), (30, 10)]))
 
     def test_order(self):
         for marks in ([(15, 2), (20, 15), (2, 10)], [(15, 2), (20, 15), (19, 15)], [(15, 2), (2, 10), (2, 10)]):
@@ -532,7 +536,7 @@ class MarksAtTheHeightOfPoints(RuleCase):
         # At the height of 20 the way has tips from above, tips from below, flat parts and parts that go through.
         heights = (30, 20, 30, 10, 20, 10, 20, 20, 30, 20, 20, 10, 30, 20, 10, 20, 30, 20, 30)
         cartoon = self.zigzag(heights)
-        self.assertTaken(cartoon.row())
+        self.assertTaken(cartoon)
         for x in range(1, cartoon.width):
             k, rest = divmod(x, 10)
             ten_heights = 10 * heights[k] + (rest and rest * (heights[k + 1] - heights[k]))
@@ -540,7 +544,7 @@ class MarksAtTheHeightOfPoints(RuleCase):
                 below = 200 < ten_heights
                 with self.subTest((x, below)):
                     marks = [(x, 20), (1, 39)] if below else [(1, 1), (x, 20)]
-                    self.assertTaken(cartoon.changed(marks=marks).row())
+                    self.assertTaken(cartoon.changed(marks=marks))
                     wrong = [(1, 1), (x, 20)] if below else [(x, 20), (1, 39)]
                     changed = cartoon.changed(marks=wrong)
                     self.assertBroken(changed.row(), 12, changed.mark_place(*wrong[1]))
@@ -553,9 +557,9 @@ class MarksAtTheHeightOfPoints(RuleCase):
             ten_heights = 10 * heights[k] + rest * (heights[k + 1] - heights[k])
             for y in range(1, 40):
                 if 10 * y < ten_heights:
-                    self.assertTaken(cartoon.changed(marks=[(x, y), (1, 39)]).row())
+                    self.assertTaken(cartoon.changed(marks=[(x, y), (1, 39)]))
                 elif 10 * y > ten_heights:
-                    self.assertTaken(cartoon.changed(marks=[(1, 1), (x, y)]).row())
+                    self.assertTaken(cartoon.changed(marks=[(1, 1), (x, y)]))
                 else:
                     self.assertEqual(judge(cartoon.changed(marks=[(x, y)]).row())[1], 11)
 
@@ -564,21 +568,21 @@ class MarksAtTheHeightOfPoints(RuleCase):
         for left in (10, 20, 30):
             for right in (10, 20, 30):
                 marks = sorted([(5, left), (15, right)], key=lambda mark: (mark[1], mark[0]))
-                self.assertTaken(drawn(20, 40, pairs, marks).row())
+                self.assertTaken(drawn(20, 40, pairs, marks))
 
 
 class Taken(RuleCase):
     def test_the_stock(self):
         for name, cartoon in cartoons().items():
             with self.subTest(name):
-                self.assertTaken(cartoon.row())
+                self.assertEqual(judge(cartoon.row()), [0])
 
     def test_outlines_that_go_straight_on(self):
-        self.assertTaken(straight_on().row())
+        self.assertTaken(straight_on())
 
     def test_glass_and_painting_may_be_any(self):
         for glass, painting in ((0, 0), (65535, 65535), (1, 65535), (256, 255)):
-            self.assertTaken(one_pane().changed(marks=[(8, 8, glass, painting)]).row())
+            self.assertTaken(one_pane().changed(marks=[(8, 8, glass, painting)]))
 
 
 if __name__ == "__main__":
