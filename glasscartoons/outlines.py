@@ -93,3 +93,17 @@ def holder_of(shapes, spot):
         if holds(corners, spot):
             return number
     return -1
+
+
+def steps_round(outline):
+    """The steps from corner to corner round an outline; the one from the last to the first stands ahead."""
+    return [(outline[k - 1], outline[k]) for k in range(len(outline))]
+
+
+def left_panes(panes):
+    """For each step that has a pane to its left: the pane's number."""
+    left = {}
+    for number, outline in enumerate(panes):
+        for step in steps_round(outline):
+            left[step] = number
+    return left

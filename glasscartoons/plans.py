@@ -1,8 +1,8 @@
 """The calls. Each answers a list of whole numbers: a refusal, or 0 and what is told."""
 
-from glasscartoons.outlines import corners_of
+from glasscartoons.outlines import corners_of, holder_of, left_panes
 from glasscartoons.plane import twice_area
-from glasscartoons.rules import examine
+from glasscartoons.rules import examine, is_on_some_line
 
 
 def judge(cartoon):
@@ -51,3 +51,32 @@ def area(i, cartoon):
     if refusal:
         return refusal
     return [0, twice_area(corners_of(verdict.drawing, verdict.panes[i]))]
+
+
+def at(x, y, cartoon):
+    """The number of the pane that holds the point (x, y)."""
+    verdict = examine(cartoon)
+    if verdict.refusal:
+        return verdict.refusal
+    spot = (x, y)
+    # A line's points would be told of one of its panes by chance: they are kept out first.
+    if is_on_some_line(verdict.drawing, spot):
+        return [-2]
+    found = holder_of([corners_of(verdict.drawing, outline) for outline in verdict.panes], spot)
+    if found < 0:
+        return [-2]
+    return [0, found]
+
+
+def sides(line, cartoon):
+    """The numbers of the panes to the left and to the right of a line, from its first point on; -1 for the outside."""
+    verdict = examine(cartoon)
+    if verdict.refusal:
+        return verdict.refusal
+    lines = verdict.drawing.lines
+    if line >= len(lines):
+        return [-2]
+    step = lines[line]
+    left = left_panes(verdict.panes)
+    # What is to the right of a line is to the left of the way back.
+    return [0, left.get(step, -1), left.get((step[1], step[0]), -1)]

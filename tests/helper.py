@@ -1,5 +1,6 @@
 """Drawings for the tests: how one is put into bytes, and a stock of cartoons."""
 
+import concurrent.futures
 import functools
 import itertools
 
@@ -276,6 +277,21 @@ def assert_kinds(case, answers):
             answer.append(7)
     case.assertEqual([answers(row) for row in rows if len(row) < 1000],
                      [first for row, first in zip(rows, found) if len(row) < 1000])
+
+
+def spread(many):
+    """The numbers below many; if there are many of them, some from the first to the last, as each call takes long."""
+    step = 1 if many < 60 else many // 24
+    return sorted({*range(0, many, step), many - 1})
+
+
+def all_answers(call, numbers, cartoon):
+    """What the call answers for each of the numbers; of large cartoons, which take long, by several processes."""
+    one = functools.partial(call, cartoon=cartoon.row())
+    if len(cartoon.points) < 100:
+        return [one(number) for number in numbers]
+    with concurrent.futures.ProcessPoolExecutor() as pool:
+        return list(pool.map(one, numbers, chunksize=8))
 
 
 def holds_spot(corners, spot):

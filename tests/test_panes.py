@@ -1,29 +1,19 @@
 """The calls pane and area: outlines, areas, what is refused first."""
 
-import concurrent.futures
-import functools
-import random
 import unittest
 
 from glasscartoons.plans import area, count, judge, pane
-from tests.helper import (GREATEST, REFUSED, assert_kinds, bent, cartoons, comb, crowded, drawn, fan, frame, grid,
-                          long_edge, long_way, nested, one_pane, pane_faults, ring, spiral, straight_on, the_run)
-from tests.test_reference import SEEDS, Reference, random_cartoon
-
-
-def all_answers(call, cartoon):
-    """What the call answers for each of the marks; of many marks by several processes, as each call takes long."""
-    one = functools.partial(call, cartoon=cartoon.row())
-    numbers = range(len(cartoon.marks))
-    if len(numbers) < 100:
-        return [one(i) for i in numbers]
-    with concurrent.futures.ProcessPoolExecutor() as pool:
-        return list(pool.map(one, numbers, chunksize=8))
+from tests.helper import (GREATEST, REFUSED, all_answers, assert_kinds, bent, cartoons, comb, crowded, drawn, fan,
+                          frame, grid, long_edge, long_way, nested, one_pane, pane_faults, ring, spiral, straight_on,
+                          the_run)
+from tests.test_reference import Reference, cartoons_by_chance
 
 
 class PaneCase(unittest.TestCase):
     def assertPanes(self, cartoon):
-        self.assertEqual(pane_faults(cartoon, all_answers(pane, cartoon), all_answers(area, cartoon)), [])
+        numbers = range(len(cartoon.marks))
+        panes, areas = all_answers(pane, numbers, cartoon), all_answers(area, numbers, cartoon)
+        self.assertEqual(pane_faults(cartoon, panes, areas), [])
 
     def assertOutlines(self, cartoon, outlines):
         """That the panes' corners are these points, mark by mark."""
@@ -123,17 +113,15 @@ class EveryCartoon(PaneCase):
                 self.assertPanes(cartoon)
 
     def test_by_chance(self):
-        for seed in range(SEEDS):
-            cartoon = random_cartoon(random.Random(seed))
+        for number, cartoon in enumerate(cartoons_by_chance()):
             row = cartoon.row()
-            if cartoon.marks and judge(row) == [0]:
-                with self.subTest(seed):
-                    self.assertPanes(cartoon)
-                    reference = Reference(row)
-                    self.assertEqual(reference.judged(), [0])
-                    areas = reference.strips.panes()
-                    for i, mark in enumerate(reference.marks):
-                        self.assertEqual(area(i, row), [0, areas[reference.strips.pane_at(mark)]])
+            with self.subTest(number):
+                self.assertPanes(cartoon)
+                reference = Reference(row)
+                self.assertEqual(reference.judged(), [0])
+                areas = reference.strips.panes()
+                for i, mark in enumerate(reference.marks):
+                    self.assertEqual(area(i, row), [0, areas[reference.strips.pane_at(mark)]])
 
     def test_as_many_as_count_tells(self):
         for cartoon in (the_run(), one_pane(), fan(), grid(5, 4, 6, False)):

@@ -4,6 +4,7 @@ It solves where lines meet with fractions, and finds panes by cutting the frame 
 points: in a strip lines part cells, and cells of two strips are in one pane if they meet along more than a point.
 """
 
+import functools
 import random
 import unittest
 from fractions import Fraction
@@ -107,8 +108,11 @@ class Reference:
             if not (0 < x < self.width and 0 < y < self.height and behind) or on_some:
                 yield self.marks_start + 12 * k
 
+    @functools.cached_property
+    def strips(self):
+        return Strips(self)
+
     def rule_12(self):
-        self.strips = Strips(self)
         seen = set()
         for k, mark in enumerate(self.marks):
             pane = self.strips.pane_at(mark)
@@ -119,6 +123,25 @@ class Reference:
     def rule_13(self):
         if len(self.strips.panes()) > len(self.marks):
             yield self.size
+
+    @functools.cached_property
+    def marked(self):
+        """For each pane, by the cell that stands for it, its mark's number."""
+        return {self.strips.pane_at(mark): number for number, mark in enumerate(self.marks)}
+
+    def held_by(self, spot):
+        """The number of the pane that holds the spot; -1 if the spot is on a line or not within the frame."""
+        if not (0 < spot[0] < self.width and 0 < spot[1] < self.height):
+            return -1
+        if any(along(self.points[a], self.points[b], spot) is not None for a, b in self.lines):
+            return -1
+        return self.marked[self.strips.pane_at(spot)]
+
+    def left_of(self, first, second):
+        """The number of the pane to the left of a line; it is looked for very near to the line's middle."""
+        (px, py), (qx, qy) = self.points[first], self.points[second]
+        near = Fraction(1, 2 ** 64)
+        return self.held_by((Fraction(px + qx, 2) - (qy - py) * near, Fraction(py + qy, 2) + (qx - px) * near))
 
 
 def along(p, q, r):
@@ -227,6 +250,13 @@ def random_cartoon(chance):
             pairs.append((p, q))
     many = len(frame(width, height, *on_edge))
     return thinned(chance, drawn(width, height, pairs, []), pairs[:many], pairs[many:])
+
+
+@functools.cache
+def cartoons_by_chance():
+    """Those of the seeds' drawings that have room for a mark in each pane."""
+    drawings = [random_cartoon(random.Random(seed)) for seed in range(SEEDS)]
+    return [drawing for drawing in drawings if drawing.marks and judge(drawing.row()) == [0]]
 
 
 def thinned(chance, full, kept, inner):

@@ -2,7 +2,7 @@
 
 import unittest
 
-from glasscartoons.plans import count, judge
+from glasscartoons.plans import at, count, judge, sides
 from tests.helper import the_run
 
 
@@ -20,6 +20,17 @@ class TheRun(unittest.TestCase):
 
     def test_count(self):
         self.assertEqual([count(what, self.row) for what in range(3)], [[0, 5], [0, 7], [0, 3]])
+
+    def test_at(self):
+        self.assertEqual(at(10, 10, self.row), [-2])
+        self.assertEqual(at(10, 9, self.row), [0, 0])
+        self.assertEqual(at(9, 10, self.row), [0, 1])
+        self.assertEqual(at(11, 11, self.row), [0, 2])
+
+    def test_sides(self):
+        self.assertEqual(sides(1, self.row), [0, 1, 0])
+        self.assertEqual(sides(0, self.row), [0, 0, -1])
+        self.assertEqual(sides(2, self.row), [0, -1, 1])
 
     def test_without_a_line(self):
         lines = [line for line in self.run_drawn.lines if line != (2, 3)]
