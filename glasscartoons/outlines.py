@@ -107,3 +107,14 @@ def left_panes(panes):
         for step in steps_round(outline):
             left[step] = number
     return left
+
+
+def panes_beside(panes, number):
+    """The numbers of the panes that have a line in common with the one of this number, rising."""
+    left = left_panes(panes)
+    beside = []
+    for first, second in steps_round(panes[number]):
+        # The way back has the pane beyond the line to its left, or none if the outside is there.
+        if (second, first) in left:
+            beside.append(left[(second, first)])
+    return sorted(set(beside))

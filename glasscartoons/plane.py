@@ -6,9 +6,14 @@ def turn_of(p, q, r):
     return (q[0] - p[0]) * (r[1] - q[1]) - (q[1] - p[1]) * (r[0] - q[0])
 
 
+def by_height(spot):
+    """What spots are put in order by: y, of one y x."""
+    return (spot[1], spot[0])
+
+
 def comes_behind(q, p):
     """Whether q comes behind p: by y, of one y by x."""
-    return (q[1], q[0]) > (p[1], p[0])
+    return by_height(q) > by_height(p)
 
 
 def is_on(p, q, r):

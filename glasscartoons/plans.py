@@ -1,6 +1,8 @@
 """The calls. Each answers a list of whole numbers: a refusal, or 0 and what is told."""
 
-from glasscartoons.outlines import corners_of, holder_of, left_panes
+from glasscartoons.drawings import write_drawing
+from glasscartoons.moves import quarter_turned
+from glasscartoons.outlines import corners_of, holder_of, left_panes, panes_beside
 from glasscartoons.plane import twice_area
 from glasscartoons.rules import examine, is_on_some_line
 
@@ -34,14 +36,18 @@ def pane_refusal(i, verdict):
     return []
 
 
+def row_told(row):
+    """The answer that tells a row: how many, then they."""
+    return [0, len(row)] + row
+
+
 def pane(i, cartoon):
     """The row of pane i's corners: how many, then their numbers."""
     verdict = examine(cartoon)
     refusal = pane_refusal(i, verdict)
     if refusal:
         return refusal
-    outline = verdict.panes[i]
-    return [0, len(outline)] + outline
+    return row_told(verdict.panes[i])
 
 
 def area(i, cartoon):
@@ -80,3 +86,25 @@ def sides(line, cartoon):
     left = left_panes(verdict.panes)
     # What is to the right of a line is to the left of the way back.
     return [0, left.get(step, -1), left.get((step[1], step[0]), -1)]
+
+
+def next_to(i, cartoon):
+    """The row of the panes that have a line in common with pane i: how many, then their numbers."""
+    verdict = examine(cartoon)
+    refusal = pane_refusal(i, verdict)
+    if refusal:
+        return refusal
+    return row_told(panes_beside(verdict.panes, i))
+
+
+def turn(quarters, cartoon):
+    """The bytes of the cartoon turned to the left by so many quarters: how many, then they."""
+    if quarters > 3:
+        return [-1]
+    verdict = examine(cartoon)
+    if verdict.refusal:
+        return verdict.refusal
+    drawing = verdict.drawing
+    for quarter in range(quarters):
+        drawing = quarter_turned(drawing)
+    return row_told(write_drawing(drawing))

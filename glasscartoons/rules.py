@@ -1,11 +1,10 @@
 """The rules that a cartoon keeps, in their order: which one bytes break first, and at which place."""
 
-from glasscartoons.drawings import bytes_told, number_at, read_drawing
+from glasscartoons.drawings import HEAD_BYTES, LETTERS, bytes_told, number_at, read_drawing
 from glasscartoons.outlines import corners_of, holder_of, links_of, outlines_of, reached
 from glasscartoons.plane import comes_behind, crosses, is_on
 
 MOST_BYTES = 131072
-LETTERS = (0x47, 0x4C, 0x41, 0x31)
 
 # Of each number of the head: its place, its bytes, the least and the most that it may be.
 HEAD_NUMBERS = (
@@ -29,9 +28,9 @@ class Verdict:
 
 def broken_head(row):
     """The first of the rules 1 to 3 that is broken, and its place; nothing if none is."""
-    if len(row) < 20:
+    if len(row) < HEAD_BYTES:
         return (1, len(row))
-    if tuple(row[:4]) != LETTERS:
+    if tuple(row[:len(LETTERS)]) != LETTERS:
         return (1, 0)
     for place, size, least, most in HEAD_NUMBERS:
         number = number_at(row, place, size)

@@ -2,8 +2,8 @@
 
 import unittest
 
-from glasscartoons.plans import at, count, judge, sides
-from tests.helper import the_run
+from glasscartoons.plans import at, count, judge, next_to, sides, turn
+from tests.helper import Drawn, the_run
 
 
 class TheRun(unittest.TestCase):
@@ -31,6 +31,16 @@ class TheRun(unittest.TestCase):
         self.assertEqual(sides(1, self.row), [0, 1, 0])
         self.assertEqual(sides(0, self.row), [0, 0, -1])
         self.assertEqual(sides(2, self.row), [0, -1, 1])
+
+    def test_next_to(self):
+        self.assertEqual(next_to(1, self.row), [0, 2, 0, 2])
+
+    def test_turned_by_one(self):
+        points = [(0, 0), (20, 0), (10, 10), (0, 30), (20, 30)]
+        lines = [(0, 1), (0, 2), (0, 3), (1, 2), (1, 4), (2, 4), (3, 4)]
+        # The mark (15, 2) is at (18, 15) now: behind (10, 2), ahead of (5, 20).
+        expected = Drawn(20, 30, points, lines, [(10, 2, 6), (18, 15, 5), (5, 20, 7)])
+        self.assertEqual(turn(1, self.row), [0, 124] + expected.row())
 
     def test_without_a_line(self):
         lines = [line for line in self.run_drawn.lines if line != (2, 3)]
