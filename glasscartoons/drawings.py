@@ -87,10 +87,14 @@ def bytes_of(numbers, sizes):
     return row
 
 
+def head_for(drawing):
+    """The numbers that stand in the head of a drawing's bytes, in the order of head_of."""
+    return (drawing.width, drawing.height, len(drawing.points), len(drawing.lines), len(drawing.marks), 0)
+
+
 def write_drawing(drawing):
     """The bytes of a drawing."""
-    head = (drawing.width, drawing.height, len(drawing.points), len(drawing.lines), len(drawing.marks), 0)
-    row = list(LETTERS) + bytes_of(head, HEAD_SIZES)
+    row = list(LETTERS) + bytes_of(head_for(drawing), HEAD_SIZES)
     for point in drawing.points:
         row.extend(bytes_of(point, POINT_SIZES))
     for line in drawing.lines:

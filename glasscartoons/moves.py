@@ -17,9 +17,25 @@ def numbered_anew(drawing):
     return Drawing(drawing.width, drawing.height, points, sorted(lines), sorted(drawing.marks, key=by_height))
 
 
+def moved(drawing, width, height, place_of):
+    """The drawing in a frame of this width and height, with each point and mark at the place it comes to."""
+    points = [place_of(point[0], point[1]) for point in drawing.points]
+    marks = [place_of(mark[0], mark[1]) + mark[2:] for mark in drawing.marks]
+    return numbered_anew(Drawing(width, height, points, drawing.lines, marks))
+
+
 def quarter_turned(drawing):
     """The drawing turned to the left by one quarter."""
     height = drawing.height
-    points = [(height - point[1], point[0]) for point in drawing.points]
-    marks = [(height - mark[1], mark[0], mark[2], mark[3]) for mark in drawing.marks]
-    return numbered_anew(Drawing(height, drawing.width, points, drawing.lines, marks))
+    return moved(drawing, height, drawing.width, lambda x, y: (height - y, x))
+
+
+def flipped(drawing):
+    """The drawing mirrored: left and right change places."""
+    width = drawing.width
+    return moved(drawing, width, drawing.height, lambda x, y: (width - x, y))
+
+
+def scaled(drawing, k):
+    """The drawing with all lengths k times."""
+    return moved(drawing, k * drawing.width, k * drawing.height, lambda x, y: (k * x, k * y))

@@ -1,10 +1,10 @@
 """The calls. Each answers a list of whole numbers: a refusal, or 0 and what is told."""
 
 from glasscartoons.drawings import write_drawing
-from glasscartoons.moves import quarter_turned
+from glasscartoons.moves import flipped, quarter_turned, scaled
 from glasscartoons.outlines import corners_of, holder_of, left_panes, panes_beside
 from glasscartoons.plane import twice_area
-from glasscartoons.rules import examine, is_on_some_line
+from glasscartoons.rules import examine, is_on_some_line, is_too_great
 
 
 def judge(cartoon):
@@ -39,6 +39,13 @@ def pane_refusal(i, verdict):
 def row_told(row):
     """The answer that tells a row: how many, then they."""
     return [0, len(row)] + row
+
+
+def drawing_told(drawing):
+    """The answer that tells what comes of a cartoon: how many bytes, then they; a refusal if it would be none."""
+    if is_too_great(drawing):
+        return [-6]
+    return row_told(write_drawing(drawing))
 
 
 def pane(i, cartoon):
@@ -107,4 +114,22 @@ def turn(quarters, cartoon):
     drawing = verdict.drawing
     for quarter in range(quarters):
         drawing = quarter_turned(drawing)
-    return row_told(write_drawing(drawing))
+    return drawing_told(drawing)
+
+
+def flip(cartoon):
+    """The bytes of the cartoon mirrored: how many, then they."""
+    verdict = examine(cartoon)
+    if verdict.refusal:
+        return verdict.refusal
+    return drawing_told(flipped(verdict.drawing))
+
+
+def scale(k, cartoon):
+    """The bytes of the cartoon with all lengths k times: how many, then they."""
+    if k < 1:
+        return [-1]
+    verdict = examine(cartoon)
+    if verdict.refusal:
+        return verdict.refusal
+    return drawing_told(scaled(verdict.drawing, k))

@@ -1,6 +1,6 @@
 """The rules that a cartoon keeps, in their order: which one bytes break first, and at which place."""
 
-from glasscartoons.drawings import HEAD_BYTES, LETTERS, bytes_told, number_at, read_drawing
+from glasscartoons.drawings import HEAD_BYTES, LETTERS, bytes_told, head_for, number_at, read_drawing
 from glasscartoons.outlines import corners_of, holder_of, links_of, outlines_of, reached
 from glasscartoons.plane import comes_behind, crosses, is_on
 
@@ -39,6 +39,14 @@ def broken_head(row):
     if len(row) != bytes_told(row):
         return (3, 20)
     return ()
+
+
+def is_too_great(drawing):
+    """Whether a drawing is wider or higher, or has more points, lines or marks, than rule 2 lets."""
+    for number, bounds in zip(head_for(drawing), HEAD_NUMBERS):
+        if number > bounds[3]:
+            return True
+    return False
 
 
 def wrong_point(drawing):

@@ -4,6 +4,8 @@ import concurrent.futures
 import functools
 import itertools
 
+from glasscartoons.plans import area, count, next_to, pane
+
 GREATEST = 18446744073709551615
 HEAD = 20
 
@@ -303,6 +305,45 @@ def holds_spot(corners, spot):
             above = (py - spot[1]) * (qx - px) + (qy - py) * (spot[0] - px)
             met += (above > 0) == (qx > px)
     return met % 2 == 1
+
+
+def redrawn(cartoon, width, height, place_of):
+    """The cartoon drawn anew in this frame from its points' pairs, each point and mark where it comes to."""
+    spots = [place_of(x, y) for x, y in cartoon.points]
+    marks = [place_of(x, y) + (glass, painting) for x, y, glass, painting in cartoon.marks]
+    return drawn(width, height, [(spots[a], spots[b]) for a, b in cartoon.lines], marks)
+
+
+def mirrored(cartoon):
+    """The cartoon mirrored, drawn anew."""
+    return redrawn(cartoon, cartoon.width, cartoon.height, lambda x, y: (cartoon.width - x, y))
+
+
+def magnified(k, cartoon):
+    """The cartoon with all lengths k times, drawn anew."""
+    return redrawn(cartoon, k * cartoon.width, k * cartoon.height, lambda x, y: (k * x, k * y))
+
+
+def row_behind(answer):
+    """The row that is told behind the 0 and how many there are."""
+    if answer[0] != 0 or answer[1] != len(answer) - 2:
+        raise AssertionError("not a row: %r" % answer[:3])
+    return answer[2:]
+
+
+def assert_panes_go_along(case, cartoon, drawing, place_of, times=1):
+    """That each pane is in the new drawing, by its mark: so many times the area, its corners, its neighbours."""
+    row, new = cartoon.row(), drawing.row()
+    spots = [(x, y) for x, y, glass, painting in drawing.marks]
+    numbers = [spots.index(place_of(x, y)) for x, y, glass, painting in cartoon.marks]
+    case.assertEqual(count(2, new), count(2, row))
+    for i, number in enumerate(numbers):
+        case.assertEqual(drawing.marks[number][2:], cartoon.marks[i][2:])
+        case.assertEqual(area(number, new), [0, times * area(i, row)[1]])
+        corners = {place_of(*cartoon.points[k]) for k in row_behind(pane(i, row))}
+        case.assertEqual({drawing.points[k] for k in row_behind(pane(number, new))}, corners)
+        beside = sorted(numbers[k] for k in row_behind(next_to(i, row)))
+        case.assertEqual(row_behind(next_to(number, new)), beside)
 
 
 def area_of(corners):

@@ -259,6 +259,13 @@ def cartoons_by_chance():
     return [drawing for drawing in drawings if drawing.marks and judge(drawing.row()) == [0]]
 
 
+def several():
+    """Cartoons of the stock that aren't large, and some made by chance, by their names."""
+    small = {name: cartoon for name, cartoon in cartoons().items() if len(cartoon.points) < 50}
+    small.update((number, cartoon) for number, cartoon in enumerate(cartoons_by_chance()[:50]))
+    return small
+
+
 def thinned(chance, full, kept, inner):
     """Lines left out while the rules hold; a mark in each pane that has room for one."""
     chance.shuffle(inner)

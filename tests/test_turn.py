@@ -1,11 +1,13 @@
 """The call turn: a cartoon turned to the left by quarters."""
 
+import functools
 import unittest
 
-from glasscartoons.plans import area, at, count, judge, next_to, pane, turn
-from tests.helper import (GREATEST, REFUSED, Drawn, assert_kinds, bent, cartoons, comb, crowded, drawn, fan, frame,
-                          greatest_frame, grid, nested, one_pane, ring, spiral, straight_on, the_run)
-from tests.test_reference import Reference, cartoons_by_chance
+from glasscartoons.plans import at, judge, turn
+from tests.helper import (GREATEST, REFUSED, Drawn, assert_kinds, assert_panes_go_along, bent, cartoons, comb, crowded,
+                          drawn, fan, frame, greatest_frame, grid, nested, one_pane, redrawn, ring, row_behind, spiral,
+                          straight_on, the_run)
+from tests.test_reference import Reference, cartoons_by_chance, several
 
 
 def spot_turned(cartoon, quarters, x, y):
@@ -15,26 +17,14 @@ def spot_turned(cartoon, quarters, x, y):
 
 
 def drawing_turned(cartoon, quarters):
-    """The cartoon drawn anew from its points' pairs, each where it comes to."""
-    spots = [spot_turned(cartoon, quarters, x, y) for x, y in cartoon.points]
-    marks = [spot_turned(cartoon, quarters, x, y) + (glass, painting) for x, y, glass, painting in cartoon.marks]
-    sides = (cartoon.height, cartoon.width) if quarters % 2 else (cartoon.width, cartoon.height)
-    return drawn(sides[0], sides[1], [(spots[a], spots[b]) for a, b in cartoon.lines], marks)
+    """The cartoon turned, drawn anew."""
+    width, height = (cartoon.height, cartoon.width) if quarters % 2 else (cartoon.width, cartoon.height)
+    return redrawn(cartoon, width, height, functools.partial(spot_turned, cartoon, quarters))
 
 
 def turned_row(quarters, row):
-    """The bytes behind the 0 and how many they are."""
-    answer = turn(quarters, row)
-    if answer[0] != 0 or answer[1] != len(answer) - 2:
-        raise AssertionError("not a row: %r" % answer[:3])
-    return answer[2:]
-
-
-def several():
-    """Cartoons of the stock that aren't large, and some made by chance."""
-    small = {name: cartoon for name, cartoon in cartoons().items() if len(cartoon.points) < 50}
-    small.update((number, cartoon) for number, cartoon in enumerate(cartoons_by_chance()[:50]))
-    return small
+    """The bytes of what comes of it."""
+    return row_behind(turn(quarters, row))
 
 
 class Turned(unittest.TestCase):
@@ -162,18 +152,10 @@ class OneBehindTheOther(unittest.TestCase):
 class Panes(unittest.TestCase):
     def test_a_pane_goes_with_its_mark(self):
         for cartoon in (the_run(), comb(), spiral(), ring(), bent(), straight_on(), fan(), greatest_frame()):
-            row = cartoon.row()
             for quarters in range(1, 4):
-                new = turned_row(quarters, row)
                 drawing = drawing_turned(cartoon, quarters)
-                numbers = [drawing.marks.index(spot_turned(cartoon, quarters, x, y) + (glass, painting))
-                           for x, y, glass, painting in cartoon.marks]
-                self.assertEqual(count(2, new), count(2, row))
-                for i, number in enumerate(numbers):
-                    self.assertEqual(area(number, new), area(i, row))
-                    corners = {spot_turned(cartoon, quarters, *cartoon.points[k]) for k in pane(i, row)[2:]}
-                    self.assertEqual({drawing.points[k] for k in pane(number, new)[2:]}, corners)
-                    self.assertEqual(next_to(number, new)[2:], sorted(numbers[k] for k in next_to(i, row)[2:]))
+                self.assertEqual(turned_row(quarters, cartoon.row()), drawing.row())
+                assert_panes_go_along(self, cartoon, drawing, functools.partial(spot_turned, cartoon, quarters))
 
     def test_what_a_pane_holds_goes_with_it(self):
         cartoon = comb()
