@@ -1,27 +1,43 @@
-"""What comes of a drawing whose points and marks are moved."""
+"""What comes of drawings that are moved or joined. Lines are told here by the pairs of points at their ends."""
 
 from glasscartoons.drawings import Drawing
 from glasscartoons.plane import by_height
 
 
-def numbered_anew(drawing):
-    """The drawing with its points, lines and marks in the order that the rules 4, 5 and 11 ask for."""
-    points = sorted(drawing.points, key=by_height)
+def pairs_of(drawing):
+    """The two points at the ends of each line."""
+    points = drawing.points
+    return [(points[first], points[second]) for first, second in drawing.lines]
+
+
+def points_of(pairs):
+    """The points of the pairs, each once, in the order that rule 4 asks for."""
+    found = {}
+    for first, second in pairs:
+        found[first] = True
+        found[second] = True
+    return sorted(found, key=by_height)
+
+
+def numbered_anew(width, height, pairs, marks):
+    """The drawing with a line between the points of each pair, all in the order that the rules 4, 5 and 11 ask for."""
+    # By rule 8 a cartoon has no point without lines: the pairs tell all of them.
+    points = points_of(pairs)
     numbers = {}
     for number, point in enumerate(points):
         numbers[point] = number
     lines = []
-    for line in drawing.lines:
-        ends = [numbers[drawing.points[end]] for end in line]
+    for first, second in pairs:
+        ends = (numbers[first], numbers[second])
         lines.append((min(ends), max(ends)))
-    return Drawing(drawing.width, drawing.height, points, sorted(lines), sorted(drawing.marks, key=by_height))
+    return Drawing(width, height, points, sorted(lines), sorted(marks, key=by_height))
 
 
 def moved(drawing, width, height, place_of):
     """The drawing in a frame of this width and height, with each point and mark at the place it comes to."""
-    points = [place_of(point[0], point[1]) for point in drawing.points]
+    pairs = [(place_of(p[0], p[1]), place_of(q[0], q[1])) for p, q in pairs_of(drawing)]
     marks = [place_of(mark[0], mark[1]) + mark[2:] for mark in drawing.marks]
-    return numbered_anew(Drawing(width, height, points, drawing.lines, marks))
+    return numbered_anew(width, height, pairs, marks)
 
 
 def quarter_turned(drawing):
@@ -39,3 +55,25 @@ def flipped(drawing):
 def scaled(drawing, k):
     """The drawing with all lengths k times."""
     return moved(drawing, k * drawing.width, k * drawing.height, lambda x, y: (k * x, k * y))
+
+
+def is_upright_at(pair, x):
+    """Whether the line between the pair's points goes straight up at this x."""
+    return pair[0][0] == x and pair[1][0] == x
+
+
+def seam(pairs):
+    """The pairs that join each of these pairs' points, which are one above the other, with the next."""
+    points = points_of(pairs)
+    return [(points[k - 1], points[k]) for k in range(1, len(points))]
+
+
+def joined(first, second):
+    """The drawing of both, which are as high, the second to the right of the first."""
+    edge = first.width
+    beside = moved(second, edge + second.width, second.height, lambda x, y: (edge + x, y))
+    pairs = pairs_of(first) + pairs_of(beside)
+    # By rule 6 the lines along the edge between the two have all points of it as their ends.
+    along = [pair for pair in pairs if is_upright_at(pair, edge)]
+    others = [pair for pair in pairs if not is_upright_at(pair, edge)]
+    return numbered_anew(beside.width, beside.height, others + seam(along), first.marks + beside.marks)

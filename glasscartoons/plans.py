@@ -1,10 +1,16 @@
 """The calls. Each answers a list of whole numbers: a refusal, or 0 and what is told."""
 
 from glasscartoons.drawings import write_drawing
-from glasscartoons.moves import flipped, quarter_turned, scaled
+from glasscartoons.moves import flipped, joined, quarter_turned, scaled
 from glasscartoons.outlines import corners_of, holder_of, left_panes, panes_beside
-from glasscartoons.plane import twice_area
-from glasscartoons.rules import examine, is_on_some_line, is_too_great
+from glasscartoons.plane import turn_of, twice_area
+from glasscartoons.rules import examine, is_on_some_line, is_too_great, is_too_long
+
+# By how much a rule's number is more in a refusal of join's second cartoon.
+SECOND = 16
+
+# 2 to the power of 64: the numbers of turned are below it in size.
+SIZE_END = 18446744073709551616
 
 
 def judge(cartoon):
@@ -133,3 +139,27 @@ def scale(k, cartoon):
     if verdict.refusal:
         return verdict.refusal
     return drawing_told(scaled(verdict.drawing, k))
+
+
+def join(first, second):
+    """The bytes of the second cartoon to the right of the first: how many, then they."""
+    # Too many bytes are looked at ahead of the rules, of both.
+    if is_too_long(first) or is_too_long(second):
+        return [-6]
+    left = examine(first)
+    if left.refusal:
+        return left.refusal
+    right = examine(second)
+    if right.refusal:
+        return [-5, right.refusal[1] + SECOND, right.refusal[2]]
+    if left.drawing.height != right.drawing.height:
+        return [-2]
+    return drawing_told(joined(left.drawing, right.drawing))
+
+
+def turned(px, py, qx, qy, rx, ry):
+    """The turn of the points p, q, r."""
+    for number in (px, py, qx, qy, rx, ry):
+        if abs(number) >= SIZE_END:
+            return [-1]
+    return [0, turn_of((px, py), (qx, qy), (rx, ry))]

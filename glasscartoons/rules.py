@@ -26,6 +26,11 @@ class Verdict:
         self.panes = panes
 
 
+def is_too_long(row):
+    """Whether there are more bytes than are looked at."""
+    return len(row) > MOST_BYTES
+
+
 def broken_head(row):
     """The first of the rules 1 to 3 that is broken, and its place; nothing if none is."""
     if len(row) < HEAD_BYTES:
@@ -231,7 +236,7 @@ def judge_panes(drawing):
 
 def examine(row):
     """What the bytes are; their drawing and its panes, in the order of their marks, if they are a cartoon."""
-    if len(row) > MOST_BYTES:
+    if is_too_long(row):
         return Verdict([-6], None, [])
     broken = broken_head(row)
     if broken:

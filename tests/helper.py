@@ -56,6 +56,18 @@ class Drawn:
         return HEAD + 8 * len(self.points) + 4 * len(self.lines) + 12 * number
 
 
+def read_back(row):
+    """The drawing that stands in a row of bytes."""
+    rest = list(row[4:])
+
+    def numbers(*sizes):
+        return tuple(int.from_bytes(bytes([rest.pop(0) for k in range(size)]), "little") for size in sizes)
+
+    width, height, many_points, many_lines, many_marks, nothing = numbers(4, 4, 2, 2, 2, 2)
+    return Drawn(width, height, [numbers(4, 4) for k in range(many_points)], [numbers(2, 2) for k in range(many_lines)],
+                 [numbers(4, 4, 2, 2) for k in range(many_marks)])
+
+
 def by_height(spot):
     return (spot[1], spot[0])
 
@@ -250,6 +262,36 @@ REFUSED = (
 )
 
 
+def broken_rows():
+    """Bytes that break each of the rules 1 to 13 first, one behind the other, with the rule and the place."""
+    run = the_run()
+    crossed = drawn(20, 18, frame(20, 18) + [((0, 0), (20, 18)), ((20, 0), (0, 18))], [(10, 1)])
+    loose = drawn(20, 18, frame(20, 18), [(9, 9)], more_points=[(5, 6)])
+    island = drawn(40, 40, frame(40, 40) + path((10, 12), (30, 10), (20, 30), (10, 12)), [(5, 5), (20, 20)])
+    hung = drawn(40, 40, frame(40, 40, (20, 0)) + path((20, 0), (15, 5), (25, 5), (20, 0)), [(5, 5), (20, 4)])
+    return (
+        (run.row()[:19], 1, 19),
+        (edited(run.row(), 3, 0), 1, 0),
+        (edited(run.row(), 4, 15), 2, 4),
+        (edited(run.row(), 8, 15), 2, 8),
+        (edited(run.row(), 12, 3), 2, 12),
+        (edited(run.row(), 14, 3), 2, 14),
+        (edited(run.row(), 16, 0), 2, 16),
+        (edited(run.row(), 19, 1), 2, 18),
+        (run.row()[:-1], 3, 20),
+        (run.changed(points=[(0, 0), (30, 0), (31, 10), (0, 20), (30, 20)]).row(), 4, 36),
+        (run.changed(lines=[(0, 1), (0, 2), (0, 3), (2, 1), (2, 3), (2, 4), (3, 4)]).row(), 5, 72),
+        (run.changed(lines=[(0, 1), (0, 2), (0, 3), (1, 2), (2, 3), (3, 4)]).row(), 6, 20),
+        (crossed.row(), 7, crossed.line_place((20, 0), (0, 18))),
+        (loose.row(), 8, loose.point_place((5, 6))),
+        (island.row(), 9, island.point_place((30, 10))),
+        (hung.row(), 10, hung.point_place((20, 0))),
+        (run.changed(marks=[(15, 2), (2, 10), (10, 10)]).row(), 11, 112),
+        (run.changed(marks=[(15, 2), (16, 2)]).row(), 12, 100),
+        (run.changed(marks=[(15, 2)]).row(), 13, 100),
+    )
+
+
 class Watched(list):
     """A row that refuses to be changed, if only for a while."""
 
@@ -322,6 +364,18 @@ def mirrored(cartoon):
 def magnified(k, cartoon):
     """The cartoon with all lengths k times, drawn anew."""
     return redrawn(cartoon, k * cartoon.width, k * cartoon.height, lambda x, y: (k * x, k * y))
+
+
+def side_by_side(first, second):
+    """The second cartoon to the right of the first, drawn anew."""
+    edge = first.width
+    pairs = [(first.points[a], first.points[b]) for a, b in first.lines]
+    pairs += [((edge + px, py), (edge + qx, qy)) for (px, py), (qx, qy) in
+              [(second.points[a], second.points[b]) for a, b in second.lines]]
+    heights = {y for x, y in first.points if x == edge} | {y for x, y in second.points if x == 0}
+    pairs = [(p, q) for p, q in pairs if {p[0], q[0]} != {edge}] + path(*[(edge, y) for y in sorted(heights)])
+    marks = first.marks + [(edge + mark[0],) + mark[1:] for mark in second.marks]
+    return drawn(edge + second.width, first.height, pairs, marks)
 
 
 def row_behind(answer):

@@ -2,20 +2,17 @@
 
 import unittest
 
-from glasscartoons.plans import at, flip, judge, turn
-from tests.helper import (REFUSED, Drawn, assert_kinds, assert_panes_go_along, bent, cartoons, comb, crowded, drawn, fan,
-                          frame, great_fan, greatest_frame, grid, mirrored, nested, one_pane, path, ring, row_behind,
-                          spiral, straight_on, the_run)
+from glasscartoons.plans import at, flip, judge
+from tests.helper import (REFUSED, Drawn, assert_kinds, assert_panes_go_along, bent, cartoons, comb, crowded, drawn,
+                          fan, frame, great_fan, greatest_frame, grid, mirrored, nested, one_pane, path, ring,
+                          row_behind, spiral, straight_on, the_run)
 from tests.test_reference import Reference, cartoons_by_chance, several
+from tests.test_turn import turned_row
 
 
 def flipped_row(row):
     """The bytes of what comes of it."""
     return row_behind(flip(row))
-
-
-def turned_row(quarters, row):
-    return row_behind(turn(quarters, row))
 
 
 def roof(left, right):
@@ -45,7 +42,8 @@ class Flipped(unittest.TestCase):
             self.assertEqual(judge(flipped_row(cartoon.row())), [0])
 
     def test_its_own_mirror_image(self):
-        for cartoon in (one_pane(), roof((7, 9), (7, 9)), drawn(40, 16, frame(40, 16, (10, 0), (30, 0)), [(20, 3, 5, 6)])):
+        two_points = drawn(40, 16, frame(40, 16, (10, 0), (30, 0)), [(20, 3, 5, 6)])
+        for cartoon in (one_pane(), roof((7, 9), (7, 9)), two_points):
             self.assertEqual(judge(cartoon.row()), [0])
             self.assertEqual(flipped_row(cartoon.row()), cartoon.row())
 
